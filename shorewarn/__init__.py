@@ -1,0 +1,1 @@
+"""Shorewarn: waves, gauges, and walks to high ground that are sure."""

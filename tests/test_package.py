@@ -1,0 +1,105 @@
+"""Point 3 and the interface's introduction: what the program uses, where its names stand, what it leaves alone."""
+
+import ast
+import pathlib
+import unittest
+
+from helpers import EXAMPLE
+from shorewarn.charts import (Chart, beside, cells, check_event, check_ground, check_readings, check_water,
+                              with_high)
+from shorewarn.waves import wave_path, wave_time, wave_times
+
+PACKAGE = pathlib.Path(__file__).resolve().parent.parent / "shorewarn"
+
+INTERFACE = {
+    "errors": {"ShoreError": 0, "BadChart": 0, "NoSuchCell": 0, "BadEvent": 0, "BadReadings": 0, "ClockBack": 0,
+               "NotAGauge": 0, "AlreadyReported": 0, "NotInTime": 0, "TooManyDeeds": 0, "FaultyLine": 0,
+               "NotExplained": 0},
+    "charts": {"Chart": 0, "cells": ["chart"], "beside": ["chart", "place"], "with_high": ["chart", "places"],
+               "check_water": ["chart", "place"], "check_ground": ["chart", "place"],
+               "check_event": ["chart", "event"], "check_readings": ["chart", "readings", "clock"]},
+    "waves": {"wave_times": ["chart", "cell"], "wave_time": ["chart", "one", "two"],
+              "wave_path": ["chart", "one", "two"]},
+}
+
+
+def trees():
+    return {path.stem: ast.parse(path.read_text(encoding="ascii")) for path in sorted(PACKAGE.glob("*.py"))}
+
+
+class InterfaceTest(unittest.TestCase):
+    def test_each_name_is_defined_in_its_file_with_its_arguments(self):
+        found = trees()
+        for module, names in INTERFACE.items():
+            for name, parameters in names.items():
+                with self.subTest(module=module, name=name):
+                    made = [row for row in found[module].body if getattr(row, "name", None) == name]
+                    self.assertEqual(len(made), 1)
+                    if parameters == 0:
+                        self.assertIsInstance(made[0], ast.ClassDef)
+                    else:
+                        self.assertIsInstance(made[0], ast.FunctionDef)
+                        self.assertEqual([part.arg for part in made[0].args.args], parameters)
+
+    def test_chart_takes_rows_and_sources_by_name(self):
+        chart = Chart(rows=("1",), sources=((0, 0),))
+        self.assertEqual((chart.rows, chart.sources), (("1",), ((0, 0),)))
+
+
+class NothingFromOutsideTest(unittest.TestCase):
+    def test_imports(self):
+        # Of Python's library only what LANGUAGE.md allows: no clock, no random numbers, no files.
+        allowed = ("heapq", "math", "itertools", "collections")
+        for name, tree in trees().items():
+            for part in ast.walk(tree):
+                with self.subTest(file=name):
+                    self.assertNotIsInstance(part, ast.Import)
+                    if isinstance(part, ast.ImportFrom):
+                        self.assertEqual(part.level, 0)
+                        self.assertTrue(part.module in allowed or part.module.startswith("shorewarn."))
+
+    def test_builtins_that_reach_outside(self):
+        barred = ("open", "input", "print", "exec", "eval", "compile", "globals", "vars")
+        for name, tree in trees().items():
+            for part in ast.walk(tree):
+                if isinstance(part, ast.Name):
+                    with self.subTest(file=name):
+                        self.assertNotIn(part.id, barred)
+
+    def test_strings_have_no_other_signs(self):
+        for name, tree in trees().items():
+            for part in ast.walk(tree):
+                if isinstance(part, ast.Constant) and isinstance(part.value, str):
+                    with self.subTest(file=name, text=part.value):
+                        self.assertNotIn("%", part.value)
+                        self.assertTrue(all(" " <= sign <= "~" or sign == "\n" for sign in part.value))
+
+    def test_nothing_but_python_files(self):
+        names = [path.name for path in PACKAGE.iterdir() if path.name != "__pycache__"]
+        self.assertEqual([name for name in names if not name.endswith(".py")], [])
+
+
+class ArgumentsStayTest(unittest.TestCase):
+    def test_functions_leave_the_chart_as_it_was_and_tell_the_same_again(self):
+        chart = Chart(("111", "aa#", "^aa"), ((0, 2),))
+        before = dict(vars(chart))
+        calls = (
+            lambda: cells(chart),
+            lambda: beside(chart, (1, 1)),
+            lambda: with_high(chart, ((1, 0),)).rows,
+            lambda: check_water(chart, (0, 0)),
+            lambda: check_ground(chart, (1, 0)),
+            lambda: check_event(chart, (((0, 2), 4),)),
+            lambda: check_readings(chart, (((0, 1), 6),), 6),
+            lambda: wave_times(chart, (0, 2)),
+            lambda: wave_time(chart, (0, 2), (0, 0)),
+            lambda: wave_path(chart, (0, 2), (0, 0)),
+        )
+        first = [call() for call in calls]
+        self.assertEqual([call() for call in calls], first)
+        self.assertEqual(vars(chart), before)
+        self.assertEqual((chart.rows, chart.sources), (EXAMPLE.rows, EXAMPLE.sources))
+
+
+if __name__ == "__main__":
+    unittest.main()

@@ -67,6 +67,21 @@ def is_water(chart, place):
     return has_sign(chart.rows, place, WATER)
 
 
+def is_land(chart, place):
+    """Tell whether a pair of integers is a land cell of the chart."""
+    return has_sign(chart.rows, place, LAND)
+
+
+def is_high(chart, place):
+    """Tell whether a pair of integers is high ground of the chart."""
+    return has_sign(chart.rows, place, HIGH)
+
+
+def is_ground(chart, place):
+    """Tell whether a pair of integers is a cell of land or high ground of the chart."""
+    return has_sign(chart.rows, place, LAND + HIGH)
+
+
 def cells(chart):
     """Return all cells of the chart, ascending."""
     height = len(chart.rows)
@@ -106,7 +121,7 @@ def check_water(chart, place):
 
 def check_ground(chart, place):
     """Raise NoSuchCell for all but a cell of land or high ground of the chart."""
-    if not has_sign(chart.rows, place, LAND + HIGH):
+    if not is_ground(chart, place):
         raise NoSuchCell()
 
 

@@ -7,6 +7,9 @@ import unittest
 from helpers import EXAMPLE
 from shorewarn.charts import (Chart, beside, cells, check_event, check_ground, check_readings, check_water,
                               with_high)
+from shorewarn.escapes import escape, last_minute, unsafe_from
+from shorewarn.events import arrivals, delayed, merged, reduced
+from shorewarn.forecasts import agrees, earliest, event_at, explained, is_refutation, latest, least_starts, tight
 from shorewarn.waves import wave_path, wave_time, wave_times
 
 PACKAGE = pathlib.Path(__file__).resolve().parent.parent / "shorewarn"
@@ -20,6 +23,16 @@ INTERFACE = {
                "check_event": ["chart", "event"], "check_readings": ["chart", "readings", "clock"]},
     "waves": {"wave_times": ["chart", "cell"], "wave_time": ["chart", "one", "two"],
               "wave_path": ["chart", "one", "two"]},
+    "events": {"arrivals": ["chart", "event"], "merged": ["one", "two"], "delayed": ["event", "minutes"],
+               "reduced": ["chart", "event"]},
+    "forecasts": {"agrees": ["chart", "readings", "clock", "event"], "least_starts": ["chart", "readings", "clock"],
+                  "tight": ["chart", "readings", "clock"], "explained": ["chart", "readings", "clock"],
+                  "is_refutation": ["chart", "readings", "clock", "gauge", "reasons"],
+                  "earliest": ["chart", "readings", "clock"], "latest": ["chart", "readings", "clock"],
+                  "event_at": ["chart", "readings", "clock", "cell", "time"]},
+    "escapes": {"unsafe_from": ["chart", "readings", "clock"],
+                "escape": ["chart", "readings", "clock", "start", "minute"],
+                "last_minute": ["chart", "readings", "clock", "start"]},
 }
 
 
@@ -82,6 +95,7 @@ class NothingFromOutsideTest(unittest.TestCase):
 class ArgumentsStayTest(unittest.TestCase):
     def test_functions_leave_the_chart_as_it_was_and_tell_the_same_again(self):
         chart = Chart(("111", "aa#", "^aa"), ((0, 2),))
+        readings = (((0, 1), 6),)
         before = dict(vars(chart))
         calls = (
             lambda: cells(chart),
@@ -94,6 +108,21 @@ class ArgumentsStayTest(unittest.TestCase):
             lambda: wave_times(chart, (0, 2)),
             lambda: wave_time(chart, (0, 2), (0, 0)),
             lambda: wave_path(chart, (0, 2), (0, 0)),
+            lambda: arrivals(chart, (((0, 2), 4),)),
+            lambda: merged((((0, 2), 4),), (((0, 2), 3),)),
+            lambda: delayed((((0, 2), 4),), 3),
+            lambda: reduced(chart, (((0, 2), 4),)),
+            lambda: agrees(chart, readings, 6, (((0, 2), 4),)),
+            lambda: least_starts(chart, readings, 6),
+            lambda: tight(chart, readings, 6),
+            lambda: explained(chart, readings, 6),
+            lambda: is_refutation(chart, readings, 6, (0, 1), (("start",),)),
+            lambda: earliest(chart, readings, 6),
+            lambda: latest(chart, readings, 6),
+            lambda: event_at(chart, readings, 6, (0, 0), 8),
+            lambda: unsafe_from(chart, readings, 6),
+            lambda: escape(chart, readings, 6, (1, 0), 6),
+            lambda: last_minute(chart, readings, 6, (1, 0)),
         )
         first = [call() for call in calls]
         self.assertEqual([call() for call in calls], first)

@@ -137,11 +137,17 @@ def check_event(chart, event):
 
 def check_readings(chart, readings, clock):
     """Raise BadReadings for all but readings on the chart with their clock."""
-    gauges = [gauge for gauge, time in readings]
-    if not 0 <= clock <= LAST_CLOCK or not is_ascending(gauges):
+    if not are_readings(chart, readings, clock):
         raise BadReadings()
-    for gauge, time in readings:
-        if not is_water(chart, gauge):
-            raise BadReadings()
-        if time is not None and not 0 <= time <= clock:
-            raise BadReadings()
+
+
+def are_readings(chart, readings, clock):
+    """Tell whether these can be readings on the chart with this clock."""
+    if not 0 <= clock <= LAST_CLOCK or not is_ascending([gauge for gauge, time in readings]):
+        return False
+    return all([is_water(chart, gauge) and is_up_to(time, clock) for gauge, time in readings])
+
+
+def is_up_to(time, clock):
+    """Tell whether a gauge can have this time, or None, at the clock."""
+    return time is None or 0 <= time <= clock

@@ -39,6 +39,10 @@ def water_of(chart):
     return [place for place in places_of(chart) if sign_of(chart, place) in WATER]
 
 
+def ground_of(chart):
+    return [place for place in places_of(chart) if sign_of(chart, place) in LAND + "^"]
+
+
 def outside_of(chart):
     """Pairs just outside of the chart on each side, and those that negative indexes would find."""
     height, width = len(chart.rows), len(chart.rows[0])

@@ -2,8 +2,8 @@
 
 import unittest
 
-from helpers import (ALL_SIGNS, EXAMPLE, LAND, LINE, ROAD, ROAD_READINGS, agreeing, as_grid, is_plain, is_safe,
-                     is_walk, places_of, random_cases, random_charts, sign_of, slow_arrivals, slow_reached,
+from helpers import (ALL_SIGNS, EXAMPLE, LAND, LINE, ROAD, ROAD_READINGS, agreeing, as_grid, ground_of, is_plain,
+                     is_safe, is_walk, places_of, random_cases, random_charts, sign_of, slow_arrivals, slow_reached,
                      slow_unsafe)
 from shorewarn.charts import Chart
 from shorewarn.escapes import escape, last_minute, unsafe_from
@@ -11,10 +11,6 @@ from shorewarn.forecasts import earliest, explained
 
 READINGS = (((0, 1), 6),)
 EVENT = (((0, 2), 4),)
-
-
-def ground_of(chart):
-    return [place for place in places_of(chart) if sign_of(chart, place) in LAND + "^"]
 
 
 class ExampleTest(unittest.TestCase):

@@ -10,6 +10,9 @@ from shorewarn.charts import (Chart, beside, cells, check_event, check_ground, c
 from shorewarn.escapes import escape, last_minute, unsafe_from
 from shorewarn.events import arrivals, delayed, merged, reduced
 from shorewarn.forecasts import agrees, earliest, event_at, explained, is_refutation, latest, least_starts, tight
+from shorewarn.placing import fewest_gauges, fewest_shelters, warned
+from shorewarn.texts import chart_of, chart_text, readings_of, readings_text
+from shorewarn.watches import Watch
 from shorewarn.waves import wave_path, wave_time, wave_times
 
 PACKAGE = pathlib.Path(__file__).resolve().parent.parent / "shorewarn"
@@ -33,7 +36,15 @@ INTERFACE = {
     "escapes": {"unsafe_from": ["chart", "readings", "clock"],
                 "escape": ["chart", "readings", "clock", "start", "minute"],
                 "last_minute": ["chart", "readings", "clock", "start"]},
+    "placing": {"warned": ["chart", "gauges", "start"], "fewest_gauges": ["chart", "candidates", "places"],
+                "fewest_shelters": ["chart", "gauges", "places", "candidates"]},
+    "texts": {"chart_text": ["chart"], "readings_text": ["readings", "clock"], "chart_of": ["text"],
+              "readings_of": ["chart", "text"]},
+    "watches": {"Watch": 0},
 }
+
+WATCH = {"readings": [], "clock": [], "log": [], "observe": ["clock", "reports"], "undo": [], "fork": [],
+         "earliest": [], "latest": [], "escape": ["start"], "last_minute": ["start"]}
 
 
 def trees():
@@ -53,6 +64,14 @@ class InterfaceTest(unittest.TestCase):
                     else:
                         self.assertIsInstance(made[0], ast.FunctionDef)
                         self.assertEqual([part.arg for part in made[0].args.args], parameters)
+
+    def test_each_method_of_watch_is_defined_in_the_class(self):
+        found = [row for row in trees()["watches"].body if getattr(row, "name", None) == "Watch"]
+        methods = {row.name: [part.arg for part in row.args.args] for row in found[0].body
+                   if isinstance(row, ast.FunctionDef)}
+        for name, parameters in WATCH.items():
+            with self.subTest(name=name):
+                self.assertEqual(methods[name], ["self"] + parameters)
 
     def test_chart_takes_rows_and_sources_by_name(self):
         chart = Chart(rows=("1",), sources=((0, 0),))
@@ -92,6 +111,15 @@ class NothingFromOutsideTest(unittest.TestCase):
         self.assertEqual([name for name in names if not name.endswith(".py")], [])
 
 
+def told_by_a_watch(chart):
+    watch = Watch(chart, ((0, 1),))
+    watch.observe(6, (((0, 1), 6),))
+    other = watch.fork()
+    watch.undo()
+    return (watch.log(), other.readings(), other.clock(), other.log(), other.earliest(), other.latest(),
+            other.escape((1, 0)), other.last_minute((1, 0)))
+
+
 class ArgumentsStayTest(unittest.TestCase):
     def test_functions_leave_the_chart_as_it_was_and_tell_the_same_again(self):
         chart = Chart(("111", "aa#", "^aa"), ((0, 2),))
@@ -123,6 +151,13 @@ class ArgumentsStayTest(unittest.TestCase):
             lambda: unsafe_from(chart, readings, 6),
             lambda: escape(chart, readings, 6, (1, 0), 6),
             lambda: last_minute(chart, readings, 6, (1, 0)),
+            lambda: warned(chart, ((0, 1),), (1, 0)),
+            lambda: fewest_gauges(chart, ((0, 0), (0, 2)), ((1, 0), (1, 1))),
+            lambda: fewest_shelters(chart, (), ((1, 0), (1, 1)), ((1, 0), (1, 1))),
+            lambda: chart_text(chart),
+            lambda: vars(chart_of(chart_text(chart))),
+            lambda: readings_of(chart, readings_text(readings, 6)),
+            lambda: told_by_a_watch(chart),
         )
         first = [call() for call in calls]
         self.assertEqual([call() for call in calls], first)
